@@ -1,0 +1,1 @@
+"""Slowleaders: cars that follow each other on a narrow road."""
