@@ -1,6 +1,6 @@
 """Checks of arguments that several files of the package need."""
 
-from slowleaders.errors import InvalidCars
+from slowleaders.errors import InvalidCars, UnknownCar
 
 MOST_CARS = 10
 LONGEST_NAME = 8
@@ -38,3 +38,9 @@ def check_cars(cars):
         if index == MOST_CARS or not is_car(car) or car[0] in names:
             raise InvalidCars(index)
         names.append(car[0])
+
+
+def check_known(cars, name):
+    """Raise UnknownCar unless one of the cars has this name."""
+    if name not in [known for known, start, pace in cars]:
+        raise UnknownCar(name)

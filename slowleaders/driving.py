@@ -27,6 +27,29 @@ def _follow(order, free):
     return left, leaders
 
 
+def drive_all(sections, starts, paces):
+    """Return the ticks and the orders of all cars at all places, and the leaders in all sections.
+
+    Starts and paces are dicts with one item for each car; cars with equal starts are in the order
+    of the starts. Cars are any keys, and there may be any number of them.
+    """
+    ticks = [starts]
+    orders = [_in_order(list(starts), starts)]
+    leaders = []
+    for kind, length in sections:
+        order = orders[-1]
+        left = {car: ticks[-1][car] + paces[car] * length for car in order}
+        led = {}
+        if kind == "wide":
+            order = _in_order(order, left)
+        else:
+            left, led = _follow(order, left)
+        ticks.append(left)
+        orders.append(order)
+        leaders.append(led)
+    return ticks, orders, leaders
+
+
 class Drive:
     """What happens if cars drive on a road."""
 
@@ -34,25 +57,9 @@ class Drive:
         check_cars(cars)
         self._sections = road.sections
         self._paces = {name: pace for name, start, pace in cars}
+        starts = {name: start for name, start, pace in cars}
         # Ticks and orders are kept for each place, leaders for each section.
-        self._ticks = [{name: start for name, start, pace in cars}]
-        self._orders = [_in_order(list(self._paces), self._ticks[0])]
-        self._leaders = []
-        for kind, length in road.sections:
-            self._drive_section(kind, length)
-
-    def _drive_section(self, kind, length):
-        entered = self._ticks[-1]
-        order = self._orders[-1]
-        left = {name: entered[name] + self._paces[name] * length for name in order}
-        leaders = {}
-        if kind == "wide":
-            order = _in_order(order, left)
-        else:
-            left, leaders = _follow(order, left)
-        self._ticks.append(left)
-        self._orders.append(order)
-        self._leaders.append(leaders)
+        self._ticks, self._orders, self._leaders = drive_all(road.sections, starts, self._paces)
 
     def _check_car(self, name):
         if name not in self:

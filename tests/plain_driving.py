@@ -50,30 +50,54 @@ def overtakings(section, before, after):
     return found
 
 
-def plain_answers(sections, cars):
-    """Return all that a drive tells, as a dict."""
+def plain_drive(sections, cars):
+    """Return the ticks and the orders at all places, and the leaders in all sections, as dicts.
+
+    There may be any number of cars, and their names may be any keys.
+    """
     paces = {name: pace for name, _, pace in cars}
     ticks = {name: start for name, start, _ in cars}
     order = []
     for start in sorted({start for _, start, _ in cars}):
         order += [name for name, other_start, _ in cars if other_start == start]
-    all_ticks, orders, leaders, all_rows, overtaken = [ticks], [order], [], [], []
-    for section, (kind, length) in enumerate(sections):
+    all_ticks, orders, leaders = [ticks], [order], []
+    for kind, length in sections:
         drive = wide_section if kind == "wide" else narrow_section
-        after, ticks, led = drive(order, ticks, paces, length)
+        order, ticks, led = drive(order, ticks, paces, length)
         all_ticks.append(ticks)
-        orders.append(after)
-        leaders.append([led[name] for name, _, _ in cars])
-        all_rows.append(rows(after, led))
+        orders.append(order)
+        leaders.append(led)
+    return all_ticks, orders, leaders
+
+
+def plain_ticks(sections, cars):
+    """Return a dict from each car to the tuple of its ticks at all places."""
+    all_ticks, _, _ = plain_drive(sections, cars)
+    return {name: tuple(ticks[name] for ticks in all_ticks) for name, _, _ in cars}
+
+
+def plain_losses(sections, cars):
+    """Return a list of tuples of each car and what it loses."""
+    ticks = plain_ticks(sections, cars)
+    losses = []
+    for car in cars:
+        alone = plain_ticks(sections, (car,))[car[0]]
+        losses.append((car[0], ticks[car[0]][-1] - alone[-1]))
+    return losses
+
+
+def plain_answers(sections, cars):
+    """Return all that a drive tells, as a dict."""
+    _, orders, leaders = plain_drive(sections, cars)
+    overtaken = []
+    for section, (kind, _) in enumerate(sections):
         if kind == "wide":
-            overtaken += overtakings(section, order, after)
-        order = after
-    alone = {name: start + sum(pace * length for _, length in sections) for name, start, pace in cars}
+            overtaken += overtakings(section, orders[section], orders[section + 1])
     return {
-        "ticks": [tuple(ticks[name] for ticks in all_ticks) for name, _, _ in cars],
+        "ticks": list(plain_ticks(sections, cars).values()),
         "orders": orders,
-        "leaders": leaders,
-        "rows": all_rows,
+        "leaders": [[led[name] for name, _, _ in cars] for led in leaders],
+        "rows": [rows(orders[section + 1], led) for section, led in enumerate(leaders)],
         "overtakings": overtaken,
-        "losses": [(name, all_ticks[-1][name] - alone[name]) for name, _, _ in cars],
+        "losses": plain_losses(sections, cars),
     }

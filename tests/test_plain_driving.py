@@ -5,10 +5,9 @@ import random
 import unittest
 
 from plain_driving import plain_answers
+from random_traffic import NAMES, random_cars, random_sections
 from slowleaders.driving import Drive
 from slowleaders.roads import Road
-
-NAMES = ["tom", "ann", "bob", "eve", "z", "abcdefgh", "b", "a", "kim", "zzzzzzzz"]
 
 
 def answers(sections, cars):
@@ -24,16 +23,6 @@ def answers(sections, cars):
         "overtakings": list(drive.overtakings()),
         "losses": list(drive.losses().items()),
     }
-
-
-def random_sections(source, most, longest):
-    many = source.randint(1, most)
-    return [(source.choice(["narrow", "wide"]), source.randint(1, longest)) for _ in range(many)]
-
-
-def random_cars(source, most, latest, slowest):
-    names = source.sample(NAMES, source.randint(0, most))
-    return tuple((name, source.randint(0, latest), source.randint(1, slowest)) for name in names)
 
 
 class PlainDrivingTest(unittest.TestCase):
