@@ -1,11 +1,12 @@
 """Checks of arguments that several files of the package need."""
 
-from slowleaders.errors import InvalidCars, UnknownCar
+from slowleaders.errors import InvalidCars, InvalidName, UnknownCar
 
 MOST_CARS = 10
 LONGEST_NAME = 8
 LATEST_START = 1000000
 SLOWEST_PACE = 60
+LATEST_TICK = 1000000000
 
 
 def is_number(value, least, most):
@@ -44,3 +45,9 @@ def check_known(cars, name):
     """Raise UnknownCar unless one of the cars has this name."""
     if name not in [known for known, start, pace in cars]:
         raise UnknownCar(name)
+
+
+def check_new_name(cars, name):
+    """Raise InvalidName unless this is a name that none of the cars has."""
+    if not is_name(name) or name in [known for known, start, pace in cars]:
+        raise InvalidName("a new name is one to eight letters a to z")

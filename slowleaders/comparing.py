@@ -3,14 +3,14 @@
 from slowleaders.driving import Drive
 
 
-def _two_cars(start):
+def two_cars(start):
     """Return a slow car, and a fast one that starts later."""
     return (("a", 0, 3), ("b", start, 1))
 
 
-def _fast_arrival(road, start):
+def fast_arrival(road, start):
     """Return the tick at which the fast one of two cars arrives."""
-    drive = Drive(road, _two_cars(start))
+    drive = Drive(road, two_cars(start))
     return drive("b")
 
 
@@ -23,6 +23,6 @@ def parting_cars(road, other):
     # This ends: where the first different unit is wide, the fast car that reaches the slow one in
     # it overtakes, and on the other road it has to follow.
     start = 1
-    while _fast_arrival(road, start) == _fast_arrival(other, start):
+    while fast_arrival(road, start) == fast_arrival(other, start):
         start += 2
-    return _two_cars(start)
+    return two_cars(start)

@@ -25,3 +25,8 @@ def random_convoy(source, most):
     cars = list(zip(source.sample(NAMES, many), starts, paces))
     source.shuffle(cars)
     return sections, tuple(cars)
+
+
+def in_order(cars):
+    """Return the cars as they can join a live road one after the other."""
+    return tuple(sorted(cars, key=lambda car: car[1]))
