@@ -241,6 +241,11 @@ class DecodeTest(CodecCase):
             self.assert_offset(0, bytes([value]))
         self.assert_offset(1, bytes([82]))
 
+    def test_no_bytes_but_other_values(self):
+        for data in (None, True, False, 0, 82, "", "R", (), tuple(sealed(VALUES)), [], list(sealed(VALUES))):
+            with self.subTest(data=data):
+                self.assertEqual(outcome(decode_traffic, data), raises("DecodeError", offset=0))
+
     def test_errors_again(self):
         for _ in range(3):
             with self.assertRaises(DecodeError):

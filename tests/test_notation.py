@@ -258,6 +258,10 @@ class ParseTest(NotationCase):
         for more in ("\ncar tom 0 6", "\ncar tom 0 0", "\ncar tom 0 6\ncar tom 0 0"):
             self.assertEqual(outcome(parse_traffic, text + more), raises("InvalidCars", index=10))
 
+    def test_no_texts(self):
+        for text in (None, True, False, 0, 7, (), ("wide 1",), [], ["wide 1"]):
+            self.assert_fault(0, 0, text)
+
     def test_errors_of_the_package(self):
         for text, error in (("", NotationError), ("wide 0", InvalidRoad), ("wide 1\ncar a 0 0", InvalidCars)):
             for _ in range(2):
