@@ -18,6 +18,15 @@ def _is_section(value):
     return kind in ("narrow", "wide") and is_number(length, 1, LONGEST_SECTION)
 
 
+def _units_of(sections):
+    """Return the string of all units of sections."""
+    # Operators run this, so it must not call a method named join: live roads are changed by theirs.
+    units = ""
+    for kind, length in sections:
+        units += LETTERS[kind] * length
+    return units
+
+
 def _runs(units):
     """Return the longest runs of units as a list of tuples of a kind and a length."""
     runs = []
@@ -40,7 +49,7 @@ class Road:
             if index == MOST_SECTIONS or not _is_section(section):
                 raise InvalidRoad(index)
         self._sections = sections
-        self._units = "".join([LETTERS[kind] * length for kind, length in sections])
+        self._units = _units_of(sections)
 
     @classmethod
     def of_units(cls, units):
